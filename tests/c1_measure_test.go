@@ -189,39 +189,10 @@ func everything(keys []int) [][]int {
 
 func TestMemoryIsOwn(t *testing.T) {
 	for _, keys := range [][]int{{}, {7}, {1, 2, 3}, {4, 3, 2, 1}, {2, 2, 1, 1}, {3, 1, 4, 1, 5, 2}, {8, 7, 6, 5, 4, 3, 2, 1}, {100, 1}} {
-		room := append(slices.Clone(keys), mark, mark, mark, mark)
-		results := everything(room[:len(keys)])
-		for i, list := range results {
-			fill(list[:cap(list)], i)
-		}
-		for i, list := range results {
-			for _, v := range list[:cap(list)] {
-				if v != i {
-					t.Errorf("%v: result %d shares memory with result %d", keys, i, v)
-				}
-			}
-		}
-		if !slices.Equal(room[:len(keys)], keys) || !slices.Equal(room[len(keys):], []int{mark, mark, mark, mark}) {
-			t.Errorf("%v: the argument was changed, or a result shares its memory: %v", keys, room)
-		}
+		checkOwnMemory(t, keys, everything)
 	}
 }
 
 func TestNoState(t *testing.T) {
-	lists := [][]int{{3, 1, 2}, {1, 2, 3}, {2, 2, 1}, {}, {100}, {8, 7, 6, 5, 4, 3, 2, 1}}
-	var first [][][]int
-	for _, keys := range lists {
-		first = append(first, everything(keys))
-	}
-	for _, list := range everything(lists[0]) {
-		fill(list, mark)
-	}
-	for i := len(lists) - 1; i >= 0; i-- {
-		if again := everything(lists[i]); !slices.EqualFunc(again, first[i], slices.Equal) {
-			t.Errorf("%v: %v, and then %v", lists[i], first[i], again)
-		}
-	}
-	if !slices.EqualFunc(everything(nil), everything([]int{}), slices.Equal) {
-		t.Error("nil and empty keys differ")
-	}
+	checkNoState(t, [][]int{{3, 1, 2}, {1, 2, 3}, {2, 2, 1}, {}, {100}, {8, 7, 6, 5, 4, 3, 2, 1}}, everything)
 }

@@ -111,3 +111,44 @@ func holds(t *testing.T, ok bool, keys []int, what string) {
 		t.Fatalf("%v: not so: %s", keys, what)
 	}
 }
+
+// checkOwnMemory fails the test if calls with the keys change them, or if lists that they return share memory with them
+// or with each other.
+func checkOwnMemory(t *testing.T, keys []int, calls func(keys []int) [][]int) {
+	t.Helper()
+	room := append(slices.Clone(keys), mark, mark, mark, mark)
+	results := calls(room[:len(keys)])
+	for i, list := range results {
+		fill(list[:cap(list)], i)
+	}
+	for i, list := range results {
+		for _, v := range list[:cap(list)] {
+			if v != i {
+				t.Errorf("%v: result %d shares memory with result %d", keys, i, v)
+			}
+		}
+	}
+	if !slices.Equal(room[:len(keys)], keys) || !slices.Equal(room[len(keys):], []int{mark, mark, mark, mark}) {
+		t.Errorf("%v: the argument was changed, or a result shares its memory: %v", keys, room)
+	}
+}
+
+// checkNoState fails the test if calls with the lists, done again in another order, return something else.
+func checkNoState(t *testing.T, lists [][]int, calls func(keys []int) [][]int) {
+	t.Helper()
+	var first [][][]int
+	for _, keys := range lists {
+		first = append(first, calls(keys))
+	}
+	for _, list := range calls(lists[0]) {
+		fill(list, mark)
+	}
+	for i := len(lists) - 1; i >= 0; i-- {
+		if again := calls(lists[i]); !slices.EqualFunc(again, first[i], slices.Equal) {
+			t.Errorf("%v: %v, and then %v", lists[i], first[i], again)
+		}
+	}
+	if !slices.EqualFunc(calls(nil), calls([]int{}), slices.Equal) {
+		t.Error("nil and empty keys differ")
+	}
+}
