@@ -272,12 +272,19 @@ func BreaksOf(keys []int) int {
 	if !ValidKeys(keys) {
 		return -1
 	}
-	breaks, last := 0, -1
-	for _, place := range append(PlacesOf(keys), len(keys)) {
-		if place != last+1 {
+	return breaksIn(PlacesOf(keys), func(ahead, place int) bool {
+		return place == ahead+1
+	})
+}
+
+// breaksIn returns how many times the next one does not follow, from -1 to each of the places and to their number at last.
+func breaksIn(places []int, follows func(ahead, place int) bool) int {
+	breaks, ahead := 0, -1
+	for _, place := range append(slices.Clone(places), len(places)) {
+		if !follows(ahead, place) {
 			breaks++
 		}
-		last = place
+		ahead = place
 	}
 	return breaks
 }
